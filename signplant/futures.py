@@ -1,12 +1,13 @@
 """The answers to a list of calls on one new plant."""
 
+from signplant.asking import ask
 from signplant.building import add_quantity, add_rule, begin, drop_rule
 from signplant.narrowing import all_states, from_state, goes, seen, tick
 from signplant.plant import Plant
 from signplant.reading import split_calls
 from signplant.refusals import NOT_BEGUN
 from signplant.rules import KINDS
-from signplant.telling import count_current, tell_one
+from signplant.telling import count_current, tell_one, tell_places, tell_state
 
 
 def answer_call(plant, name, given):
@@ -34,7 +35,11 @@ def answer_call(plant, name, given):
         return count_current(plant)
     if name == "one":
         return tell_one(plant, given[0])
-    raise NotImplementedError(f"{name} is not built yet")
+    if name == "places":
+        return tell_places(plant, given[0])
+    if name == "state":
+        return tell_state(plant)
+    return ask(plant, name, given)
 
 
 def answers(calls):

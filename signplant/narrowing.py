@@ -1,12 +1,10 @@
 """The calls that change the states that the plant may be in."""
 
-from signplant.pairs import DIRECTIONS, count_places
-from signplant.plant import has_quantity
+from signplant.pairs import DIRECTIONS
+from signplant.plant import has_place, has_quantity, too_many_fit
 from signplant.refusals import CANNOT_BE, NO_SUCH, NOT_RIGHT, TOO_MANY
 from signplant.rules import direction_of, place_of
 from signplant.states import follows_some, is_state
-
-MOST_FITTING = 120
 
 
 def take_current(plant, states):
@@ -29,7 +27,7 @@ def from_state(plant, numbers):
 def seen(plant, quantity, place):
     if not has_quantity(plant, quantity):
         return [NO_SUCH]
-    if place >= count_places(plant.marks[quantity]):
+    if not has_place(plant, quantity, place):
         return [NOT_RIGHT]
     return take_current(plant, [state for state in plant.current if place_of(state, quantity) == place])
 
@@ -43,7 +41,7 @@ def goes(plant, quantity, direction):
 
 
 def tick(plant):
-    if len(plant.fitting) > MOST_FITTING:
+    if too_many_fit(plant):
         return [TOO_MANY]
     later = [state for state in plant.fitting if follows_some(plant.marks, plant.current, state)]
     return take_current(plant, later)

@@ -1,5 +1,9 @@
 """What is known of a plant between one call and the next."""
 
+from signplant.pairs import count_places
+
+MOST_FITTING = 120
+
 
 class Plant:
     def __init__(self):
@@ -16,6 +20,14 @@ def has_quantity(plant, quantity):
 
 def has_mark(plant, quantity, mark):
     return mark < plant.marks[quantity]
+
+
+def has_place(plant, quantity, place):
+    return place < count_places(plant.marks[quantity])
+
+
+def too_many_fit(plant):
+    return len(plant.fitting) > MOST_FITTING
 
 
 def settle(plant, fitting):

@@ -1,7 +1,7 @@
 """The states of all quantities, which of them fit, and what follows them."""
 
 from signplant.pairs import DIRECTIONS, count_places, list_pairs, pair_follows
-from signplant.rules import rule_holds
+from signplant.rules import place_of, rule_holds
 
 
 def add_pairs(states, pairs):
@@ -47,3 +47,14 @@ def follows_some(marks, states, later):
         if state_follows(marks, state, later):
             return True
     return False
+
+
+def list_followers(marks, states):
+    followers = []
+    for state in states:
+        followers.append([number for number in range(len(states)) if state_follows(marks, state, states[number])])
+    return followers
+
+
+def list_places(states, quantity):
+    return sorted(set([place_of(state, quantity) for state in states]))

@@ -28,6 +28,17 @@ class Reading(unittest.TestCase):
         told = answers([0, 1, 1, 10, 2, 2, 0, 15, 0, 15, 1])
         self.assertEqual(told, [1, 0, 1, 0, 1, 1, 3, 1, 2, 0, 1, -33])
 
+    def test_each_call_on_the_ways_by_its_numbers(self):
+        # One quantity with one mark, below it and steady.
+        for asked, told in (
+            ([16, 0], [2, 1, 0]), ([17, 1], [1, 3]), ([18, 0, 2], [3, 2, 0, 1]), ([19, 0], [4, 3, 0, 1, 2]),
+            ([20], [1, 9]), ([21, 0, 2], [1, 3]), ([22, 0, 2], [9, 3, 0, 1, 0, 2, 1, 2, 2, 1]), ([23, 0, 0], [1, 0]),
+            ([24, 0, 1], [1, 1]), ([25, 0, 1, 0, 1], [1, 2]), ([26, 0, 1, 0, 2], [1, 2]), ([27], [1, 0]),
+            ([28], [1, -33]), ([29], [1, 2]), ([30], [5, 1, 0, 9, 1, 1]),
+        ):
+            with self.subTest(asked=asked):
+                self.assertEqual(answers([0, 1, 1, 10, 2, 0, 1] + asked + [14]), [1, 0, 1, 0, 1, 1] + told + [1, 1])
+
     def test_each_call_ahead_of_begin(self):
         for number in range(1, 31):
             for value in (0, 1, LARGEST):
@@ -63,7 +74,9 @@ class Reading(unittest.TestCase):
 
     def test_what_is_handed_in_stays_and_a_second_time_is_as_the_first(self):
         calls = line("begin", "quantity 1", "quantity 0", "rate 0 0 1", [0, 2, 0, 0], "tick", "one 0", "drop 0",
-                     "seen 0 1", "goes 1 2", "tick", "now", "one 1")
+                     "seen 0 1", "goes 1 2", "tick", "now", "one 1", "places 0", "ahead 3", "later 0 3", "ever 0",
+                     "reach", "may 0 0", "path 0 0", "must 0 0", "avoid 0 0", "both 0 0 1 0", "only 0 0 1 0", "rest",
+                     "stuck", "round_way", "state")
         kept = list(calls)
         first = answers(calls)
         self.assertEqual(calls, kept)
@@ -77,9 +90,16 @@ class Reading(unittest.TestCase):
         told[-1] = 77
         self.assertEqual(calls, line("begin", "quantity 1", [1, 2], "one 0"))
         self.assertEqual(answers(calls)[-3:], [1, 1, 2])
+        calls = line("begin", "quantity 1", [1, 2], "path 0 1", "state")
+        told = answers(calls)
+        self.assertEqual(told, [1, 0, 1, 0, 1, 1, 3, 0, 1, 2, 5, 1, 0, 9, 1, 1])
+        self.assertEqual(calls, line("begin", "quantity 1", [1, 2], "path 0 1", "state"))
 
     def test_answers_are_plain_whole_numbers(self):
-        told = answers(line("begin", "quantity 1", "more 0 1", "still 0", "all_states", [0, 1], "tick", "one 0", "drop 0"))
+        told = answers(line("begin", "quantity 1", "more 0 1", "still 0", "all_states", [0, 1], "tick", "one 0",
+                            "drop 0", [0, 1], "places 0", "ahead 2", "later 0 2", "ever 0", "reach", "may 0 2",
+                            "path 0 2", "must 0 2", "avoid 0 2", "avoid 0 0", "both 0 0 0 1", "only 0 1 0 2", "rest",
+                            "stuck", "round_way", "state"))
         self.assertIs(type(told), list)
         self.assertEqual({type(number) for number in told}, {int})
 

@@ -4,14 +4,7 @@ import unittest
 
 from signplant.pairs import later_places
 from tests.lines import states_now, tell
-
-# Quantity 0 is held at its mark, so that nothing follows where it falls or rises.
-HELD = ("begin", "quantity 1", "quantity 0", "rate 0 0 1", "still 1")
-# 17 ways of the directions and 7 places: 119.
-FITTING_119 = ("begin", "quantity 3", "quantity 0", "quantity 0", "quantity 0", "sum_of 0 1 2", "sum_of 0 2 3")
-# 11 ways of the directions and 11 of the places: 121.
-FITTING_121 = ("begin", "quantity 2", "quantity 2", "quantity 0", "quantity 0", "more 0 1", "sum_of 0 2 1",
-               "sum_of 0 2 3", "meet 0 0 1 0")
+from tests.plants import FITTING_119, FITTING_121, HELD
 
 
 def behind(marks, place, direction):

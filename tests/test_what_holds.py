@@ -5,152 +5,18 @@ import random
 import unittest
 
 from signplant.futures import answers
-from tests.lines import LARGEST, NUMBERS, SIZES, line, split, tell
+from tests.lines import LARGEST, NUMBERS, SIZES, split, tell
+from tests.words import HOLDS, Words
 
-BUILT = ["begin", "quantity", "more", "less", "sum_of", "rate", "still", "meet", "drop", "all_states", "from_state",
-         "seen", "goes", "tick", "now", "one"]
-
-
-def side(place, mark):
-    """-1 below a mark, 0 at it, 1 above it."""
-    return (place > 2 * mark + 1) - (place < 2 * mark + 1)
-
-
-def sum_may_have(one, other):
-    """The steps that a sum may have, of two steps of -1, 0 and 1."""
-    return {one + other} if 0 in (one, other) else ({one} if one == other else {-1, 0, 1})
-
-
-# By the name of a rule: whether it holds, of the places, the steps (-1, 0, 1) and its numbers.
-HOLDS = {
-    "more": lambda place, step, a, b: step[a] == step[b],
-    "less": lambda place, step, a, b: step[a] == -step[b],
-    "sum_of": lambda place, step, a, b, c: step[c] in sum_may_have(step[a], step[b]),
-    "rate": lambda place, step, a, j, b: step[b] == side(place[a], j),
-    "still": lambda place, step, a: step[a] == 0,
-    "meet": lambda place, step, a, j, b, k: side(place[a], j) == side(place[b], k),
-}
-
-
-class Words:
-    """The document's words taken literally, with no thought of speed."""
-
-    def __init__(self):
-        self.marks = None
-
-    def fits(self, state, rules):
-        place, step = state[0::2], [direction - 1 for direction in state[1::2]]
-        return all(HOLDS[name](place, step, *given) for name, given in rules)
-
-    def fitting(self, rules):
-        ranges = [part for marks in self.marks for part in (range(2 * marks + 1), range(3))]
-        return [list(state) for state in itertools.product(*ranges) if self.fits(state, rules)]
-
-    def renew(self):
-        self.current = self.fitting(self.rules)
-
-    def refused_rule(self, name, given):
-        quantities = given if name not in ("rate", "meet") else [given[0], given[2]]
-        if any(quantity >= len(self.marks) for quantity in quantities):
-            return -2
-        if any(one == other for one, other in itertools.combinations(quantities, 2)):
-            return -22
-        if name in ("rate", "meet") and given[1] >= self.marks[given[0]]:
-            return -22
-        if name == "meet" and given[3] >= self.marks[given[2]]:
-            return -22
-        if len(self.rules) == 8:
-            return -28
-        return None if self.fitting(self.rules + [(name, given)]) else -33
-
-    def follows(self, state, later):
-        for i, marks in enumerate(self.marks):
-            place, direction, behind, turned = state[2 * i], state[2 * i + 1], later[2 * i], later[2 * i + 1]
-            step = direction - 1
-            may = {place + step} if place % 2 or step == 0 else {place, place + step} & set(range(2 * marks + 1))
-            if behind not in may or {direction, turned} == {0, 2}:
-                return False
-        return True
-
-    def narrowed(self, states):
-        if not states:
-            return [-33]
-        self.current = states
-        return [len(states)]
-
-    def call(self, name, given):
-        if name == "begin":
-            self.marks, self.rules, self.current = [], [], [[]]
-            return [0]
-        if self.marks is None:
-            return [-11]
-        return getattr(self, "call_" + name, lambda *given: self.call_rule(name, given))(*given)
-
-    def call_rule(self, name, given):
-        refused = self.refused_rule(name, given)
-        if refused is not None:
-            return [refused]
-        self.rules.append((name, given))
-        self.renew()
-        return [len(self.rules) - 1]
-
-    def call_quantity(self, marks):
-        if marks > 3:
-            return [-22]
-        product = 2 * marks + 1
-        for other in self.marks:
-            product *= 2 * other + 1
-        if len(self.marks) == 4 or product > 30:
-            return [-28]
-        self.marks.append(marks)
-        self.renew()
-        return [len(self.marks) - 1]
-
-    def call_drop(self, number):
-        if number >= len(self.rules):
-            return [-2]
-        self.rules.pop(number)
-        self.renew()
-        return [len(self.rules)]
-
-    def call_all_states(self):
-        return self.narrowed(self.fitting(self.rules))
-
-    def call_from_state(self, *state):
-        if list(state) not in self.fitting([]):
-            return [-22]
-        return self.narrowed([list(state)]) if self.fits(state, self.rules) else [-33]
-
-    def call_seen(self, i, p):
-        if i >= len(self.marks):
-            return [-2]
-        if p > 2 * self.marks[i]:
-            return [-22]
-        return self.narrowed([state for state in self.current if state[2 * i] == p])
-
-    def call_goes(self, i, d):
-        if i >= len(self.marks):
-            return [-2]
-        if d > 2:
-            return [-22]
-        return self.narrowed([state for state in self.current if state[2 * i + 1] == d])
-
-    def call_tick(self):
-        fitting = self.fitting(self.rules)
-        if len(fitting) > 120:
-            return [-28]
-        return self.narrowed(sorted(later for later in fitting if any(self.follows(s, later) for s in self.current)))
-
-    def call_now(self):
-        return [len(self.current)]
-
-    def call_one(self, k):
-        return [len(self.marks)] + sorted(self.current)[k] if k < len(self.current) else [-33]
+KNOWING = ["begin", "quantity", "more", "less", "sum_of", "rate", "still", "meet", "drop", "all_states", "from_state",
+           "seen", "goes", "tick", "now", "one"]
+ASKING = ["places", "ahead", "later", "ever", "reach", "may", "path", "must", "avoid", "both", "only", "rest", "stuck",
+          "round_way", "state"]
 
 
 def some_number(chance):
     """A number that is small most of the time."""
-    return chance.choice([0, 0, 0, 1, 1, 1, 2, 2, 3, 4, 5, 6, 8, LARGEST] if chance.random() < 0.2 else [0, 1, 2])
+    return chance.choice([0, 1, 2, 3, 4, 5, 6, 8, 40, 41, LARGEST] if chance.random() < 0.15 else [0, 1, 2])
 
 
 def some_rule(chance, quantities):
@@ -165,9 +31,9 @@ def some_rule(chance, quantities):
 
 def some_call(chance, quantities):
     """A call by its name with numbers that are often right."""
-    name = chance.choice(BUILT[2:] + ["tick", "tick", "seen", "goes", "one", "one"])
+    name = chance.choice(KNOWING[2:] + ["tick", "tick", "seen", "goes", "one", "one"])
     if chance.random() < 0.05:
-        name = chance.choice(BUILT)
+        name = chance.choice(KNOWING)
     if name == "from_state":
         length = 2 * quantities if chance.random() < 0.9 else chance.randrange(10)
         return name, [some_number(chance) for at in range(length)]
@@ -186,6 +52,30 @@ def some_calls(chance):
     return calls
 
 
+def some_asked(chance, quantities):
+    """A call of those that change nothing, its quantities being there most of the time."""
+    name = chance.choice(ASKING)
+    given = [some_number(chance) for at in range(SIZES[NUMBERS[name]])]
+    if quantities > 0 and chance.random() < 0.9:
+        for at in range(0, len(given), 2):
+            given[at] = chance.randrange(quantities)
+    return name, given
+
+
+def some_calls_asked(chance):
+    """A line of thirty calls at most, of which many are asked of the ways."""
+    calls = [("begin", [])] if chance.random() < 0.97 else []
+    quantities = chance.choice([0, 1, 2, 2, 3, 3, 3, 4])
+    for at in range(quantities):
+        calls.append(("quantity", [chance.choice([0, 0, 1, 1, 1, 2, 2, 3])]))
+    for at in range(chance.randrange(1, 1 + 2 * max(quantities, 1))):
+        calls.append(some_rule(chance, quantities))
+    for at in range(chance.randrange(5, 31 - len(calls))):
+        knowing = chance.random() < 0.3
+        calls.append(some_call(chance, quantities) if knowing else some_asked(chance, quantities))
+    return calls
+
+
 def numbers_of(calls):
     """A line's numbers."""
     numbers = []
@@ -195,16 +85,20 @@ def numbers_of(calls):
 
 
 class Lines(unittest.TestCase):
-    def test_as_the_words_say(self):
-        chance = random.Random(20)
-        answered = {name: set() for name in BUILT}
-        for turn in range(1500):
-            calls = some_calls(chance)
+    def compare(self, names, lines):
+        """Compares each answer with the words, and gives back which refusals (or 0) each call was answered with."""
+        answered = {name: set() for name in names}
+        for calls in lines:
             words = Words()
             told = split(answers(numbers_of(calls)))
             for (name, given), answer in zip(calls, told, strict=True):
                 self.assertEqual(words.call(name, given), answer, (calls, name, given))
-                answered[name].add(min(answer[0], 0))
+                answered.setdefault(name, set()).add(min(answer[0], 0))
+        return answered
+
+    def test_as_the_words_say(self):
+        chance = random.Random(20)
+        answered = self.compare(KNOWING, [some_calls(chance) for turn in range(1500)])
         # The lines are worth little if chance leaves out a sort of answer.
         ruled = set().union(*[answered[name] for name in HOLDS])
         self.assertEqual(ruled, {0, -2, -11, -22, -28, -33})
@@ -212,14 +106,33 @@ class Lines(unittest.TestCase):
                            ("seen", {-2, -22, -33}), ("goes", {-2, -22, -33}), ("tick", {-28})):
             self.assertLessEqual(told | {0, -11}, answered[name], name)
 
+    def test_what_is_asked_as_the_words_say(self):
+        chance = random.Random(23)
+        answered = self.compare(ASKING, [some_calls_asked(chance) for turn in range(600)])
+        for name, told in (("places", {-2}), ("ahead", {-22, -28}), ("later", {-2, -22, -28}), ("ever", {-2, -28}),
+                           ("reach", {-28}), ("may", {-2, -22, -28, -33}), ("path", {-2, -22, -28, -33}),
+                           ("must", {-2, -22, -28, -33}), ("avoid", {-2, -22, -28}), ("both", {-2, -22, -28, -33}),
+                           ("only", {-2, -22, -28, -33}), ("rest", {-28, -33}), ("stuck", {-28, -33}),
+                           ("round_way", {-28, -33}), ("state", set())):
+            self.assertEqual(told | {0, -11}, answered[name], name)
+
     def test_what_is_refused_changes_nothing(self):
         chance = random.Random(21)
         for turn in range(400):
-            calls = some_calls(chance)
+            calls = some_calls(chance) if turn % 2 else some_calls_asked(chance)
             told = split(answers(numbers_of(calls)))
             taken = [at for at, answer in enumerate(told) if answer[0] >= 0]
             alone = split(answers(numbers_of([calls[at] for at in taken])))
             self.assertEqual(alone, [told[at] for at in taken], calls)
+
+    def test_what_is_asked_changes_nothing(self):
+        chance = random.Random(24)
+        for turn in range(200):
+            calls = some_calls_asked(chance)
+            told = split(answers(numbers_of(calls)))
+            kept = [at for at, (name, given) in enumerate(calls) if name not in ASKING]
+            alone = split(answers(numbers_of([calls[at] for at in kept])))
+            self.assertEqual(alone, [told[at] for at in kept], calls)
 
 
 class Refused(unittest.TestCase):
@@ -279,23 +192,70 @@ class WholeNumbers(unittest.TestCase):
                        and words.fits(self.state(numbers, turned), rules)]
         return states
 
-    def test_they_are_among_what_is_told(self):
-        chance = random.Random(22)
-        longest = 0
+    def walks(self, chance, turns):
+        """Some walks under several sets of rules, each with the calls that make its plant and begin with its state."""
         for rules in ([("still", (1,)), ("more", (0, 2))], [("rate", (0, 1, 1)), ("less", (1, 2))],
                       [("sum_of", (0, 1, 2)), ("rate", (1, 0, 0))], [("meet", (0, 0, 1, 0)), ("more", (0, 1))],
                       [("rate", (0, 0, 1)), ("rate", (0, 1, 2))]):
             built = ["begin", "quantity 2", "quantity 1", "quantity 0"]
             built += [" ".join([name] + [str(number) for number in given]) for name, given in rules]
-            for turn in range(20):
+            for turn in range(turns):
                 states = self.walk(chance, rules)
-                longest = max(longest, len(states))
-                for moments, state in enumerate(states):
-                    found = [f"seen {i} {state[2 * i]}" for i in range(3)]
-                    found += [f"goes {i} {state[2 * i + 1]}" for i in range(3)]
-                    told = tell(*built, states[0], *["tick"] * moments, *found)
-                    self.assertEqual(told[-1], [1], (rules, states, moments))
+                # Where the numbers begin, no steps may obey the rules.
+                if states:
+                    yield [*built, states[0]], states
+
+    def test_they_are_among_what_is_told(self):
+        longest = 0
+        for calls, states in self.walks(random.Random(22), 20):
+            longest = max(longest, len(states))
+            for moments, state in enumerate(states):
+                found = [f"seen {i} {state[2 * i]}" for i in range(3)]
+                found += [f"goes {i} {state[2 * i + 1]}" for i in range(3)]
+                told = tell(*calls, *["tick"] * moments, *found)
+                self.assertEqual(told[-1], [1], (calls, states, moments))
         self.assertEqual(longest, 12)
+
+    def test_their_places_are_told_so_many_moments_on(self):
+        for calls, states in self.walks(random.Random(26), 8):
+            for i in range(3):
+                asked = [f"later {i} {moments}" for moments in range(len(states))]
+                told = tell(*calls, f"ever {i}", *asked)[len(calls):]
+                for state, places in zip(states, told[1:], strict=True):
+                    self.assertIn(state[2 * i], places[1:])
+                    self.assertIn(state[2 * i], told[0][1:])
+            reach = tell(*calls, "reach")[-1][0]
+            self.assertGreaterEqual(reach, len({tuple(state) for state in states}))
+
+    def test_they_come_no_sooner_and_surely_no_later_than_told(self):
+        surely = 0
+        for calls, states in self.walks(random.Random(27), 12):
+            for i, p in [(i, p) for i in range(3) for p in range(2 * [2, 1, 0][i] + 1)]:
+                met = [moments for moments, state in enumerate(states) if state[2 * i] == p]
+                asked = [f"may {i} {p}", f"must {i} {p}", f"avoid {i} {p}"]
+                may, must, avoid = [told[0] for told in tell(*calls, *asked)[-3:]]
+                if met:
+                    self.assertIn(may, range(met[0] + 1))
+                if 0 <= must < len(states):
+                    surely += must > 0
+                    self.assertLessEqual(met[0], must)
+                    self.assertEqual(avoid, 0)
+        self.assertGreater(surely, 0)
+
+    def test_two_together_and_one_without_the_other_come_no_sooner_than_told(self):
+        places = [(i, p) for i in range(3) for p in range(2 * [2, 1, 0][i] + 1)]
+        chance = random.Random(28)
+        for calls, states in self.walks(chance, 8):
+            for (i, p), (u, q) in [chance.choices(places, k=2) for turn in range(8)]:
+                asked = [f"both {i} {p} {u} {q}", f"only {i} {p} {u} {q}", "rest"]
+                both, only, rest = [told[0] for told in tell(*calls, *asked)[-3:]]
+                for moments, state in enumerate(states):
+                    if state[2 * i] == p and state[2 * u] == q:
+                        self.assertIn(both, range(moments + 1))
+                    if state[2 * i] == p and all(each[2 * u] != q for each in states[:moments + 1]):
+                        self.assertIn(only, range(moments + 1))
+                    if state[1::2] == [1, 1, 1]:
+                        self.assertIn(rest, range(moments + 1))
 
     def test_a_number_that_leaps_is_not_told(self):
         told = tell("begin", "quantity 2", [0, 2], "tick", "seen 0 2", "seen 0 1", "tick", "seen 0 3", "seen 0 2")
