@@ -38,7 +38,7 @@ def all_after(ways, numbers):
     for number in numbers:
         for later in ways.followers[number]:
             found[later] = True
-    return sorted(found)
+    return list(found)
 
 
 def after_moments(ways, moments):

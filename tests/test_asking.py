@@ -3,7 +3,10 @@
 import time
 import unittest
 
-from tests.lines import LARGEST, last, tell
+from signplant.asking import ask
+from signplant.narrowing import tick
+from signplant.plant import Plant, settle, too_many_fit
+from tests.lines import LARGEST, last, states_now, tell
 from tests.plants import DOOMED, EAST, ENDING, FITTING_119, FITTING_121, FREE, HELD, MIDDLE, SOUTH_EAST, WEST, WHEEL
 
 # Each call on the ways, with a quantity {i} and a place {p} (or moments {k}); for both and only the second time too.
@@ -52,6 +55,20 @@ class Refusals(unittest.TestCase):
         for text in OF_MOMENTS:
             for k in (41, LARGEST):
                 self.assertEqual(last(*FITTING_121, text.format(k=k)), [-28], text)
+
+    def test_just_a_hundred_and_twenty(self):
+        # No quantities and rules make it just so many: of the 121 states some are left out by hand.
+        plant = Plant()
+        plant.begun, plant.marks = True, [2, 2, 0, 0]
+        states = states_now(*FITTING_121)
+        for many, refused in ((119, False), (120, False), (121, True)):
+            settle(plant, states[:many])
+            self.assertEqual(too_many_fit(plant), refused)
+            self.assertEqual(ask(plant, "reach", []), [-28] if refused else [many])
+            self.assertEqual(ask(plant, "ahead", [0]), [-28] if refused else [many])
+            self.assertEqual(ask(plant, "may", [0, 0]), [-28] if refused else [0])
+            self.assertEqual(ask(plant, "may", [0, 5]), [-28] if refused else [-22])
+            self.assertEqual(tick(plant) == [-28], refused)
 
     def test_answered_again_behind_one_more_rule(self):
         told = tell(*FITTING_121, "reach", "still 3", "reach", "round_way", "drop 4", "reach")
